@@ -1,0 +1,1 @@
+"""Treewalks: binary trees told by the orders of their nodes."""
