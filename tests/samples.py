@@ -1,6 +1,7 @@
 """Trees and other values for the tests, and plain second ways to tell about them."""
 
 import copy
+import itertools
 import random
 import unittest
 
@@ -153,25 +154,208 @@ def not_kinds():
     return any_values() + more
 
 
+ODD_PARTS = [
+    None, True, False, 0, 1, "", "a", "z", "A", "Z", "ab", "`", "{", " ", "\n", "1", "?", "-", (), [], {},
+    (None, "a", None), (None, None, None), (None, "a"), [None, "a", None], ("a", "a", "a"), (None, "a", None, None),
+    (None, ("a",), None), (False, "a", None), (None, "a", ()), {"a": None},
+]
+
+
+def nodes_in(value):
+    """The number of nodes, or an infinite one if something in the value is not a node."""
+    if value is None:
+        return 0
+    if type(value) is not tuple or len(value) != 3:
+        return float("inf")
+    left, label, right = value
+    if type(label) is not str or label not in list(LETTERS):
+        return float("inf")
+    return nodes_in(left) + 1 + nodes_in(right)
+
+
+def plainly_a_tree(value):
+    return value is not None and nodes_in(value) <= 12
+
+
+def spots(value, way=()):
+    """The ways to all parts of nested tuples, the whole included."""
+    found = [way]
+    if isinstance(value, tuple):
+        for at, item in enumerate(value):
+            found += spots(item, way + (at,))
+    return found
+
+
+def changed(value, way, change):
+    """The value in which the change makes another list of the items around the part at the way."""
+    if len(way) == 1:
+        return tuple(change(list(value), way[0]))
+    items = list(value)
+    items[way[0]] = changed(items[way[0]], way[1:], change)
+    return tuple(items)
+
+
+def changed_often(source, value, changes, times):
+    """The value after so many drawn changes of drawn parts."""
+    for _ in range(times):
+        ways = spots(value)[1:]
+        if ways:
+            value = changed(value, source.choice(ways), source.choice(changes))
+    return value
+
+
+def with_part(part):
+    return lambda items, at: items[:at] + [part] + items[at + 1:]
+
+
+def without(items, at):
+    return items[:at] + items[at + 1:]
+
+
+def doubled(items, at):
+    return items[:at + 1] + items[at:]
+
+
+def as_list(items, at):
+    return items[:at] + [list(items[at]) if isinstance(items[at], tuple) else [items[at]]] + items[at + 1:]
+
+
+CHANGES = [with_part(part) for part in ODD_PARTS] + [without, doubled, as_list]
+# Changes that often leave a tree.
+GENTLE = [with_part(part) for part in (None, "q", (None, "a", None))]
+
+
+ROW_KINDS = ("first", "between", "last")
+CATALAN = (1, 1, 2, 5, 14, 42, 132, 429, 1430, 4862, 16796, 58786, 208012)
+
+
+def all_row_names():
+    """All choices of one, two or three names of rows, in any order."""
+    return [names for many in (1, 2, 3) for names in itertools.permutations(ROW_KINDS, many)]
+
+
+def veiled(source, text, share):
+    """The text with a share of its places unknown."""
+    return "".join("?" if source.random() < share else sign for sign in text)
+
+
+def spoiled(source, text, letters):
+    """The text with one of its places replaced."""
+    at = source.randrange(len(text))
+    return text[:at] + source.choice(letters + "?") + text[at + 1:]
+
+
+def rows_of_tree(source, tree, share):
+    """Rows that the tree fits, with a share of their places unknown."""
+    names = source.choice(all_row_names())
+    return {name: veiled(source, plain_walk(tree, name), share) for name in names}
+
+
+def drawn_rows(source, size):
+    """Rows of this size: what a tree fits, the same with replaced letters, or any signs."""
+    letters = source.choice(["a", "ab", "abc", LETTERS])
+    sort = source.randrange(4)
+    if sort == 0:
+        signs = letters + source.choice(["", "?", "?" * len(letters)])
+        return {name: "".join(source.choice(signs) for _ in range(size)) for name in source.choice(all_row_names())}
+    rows = rows_of_tree(source, drawn(source, size, letters), source.choice([0, 0, 0.2, 0.5, 0.9, 1]))
+    if sort == 1:
+        for name in rows:
+            rows[name] = spoiled(source, rows[name], letters)
+    return rows
+
+
+def size_of_rows(rows):
+    return len(list(rows.values())[0])
+
+
+def plainly_fits(tree, rows):
+    """Whether the tree fits, by the walks that the order of the paths tells."""
+    told = {name: plain_walk(tree, name) for name in rows}
+    if any(len(told[name]) != len(rows[name]) for name in rows):
+        return False
+    return all(sign in ("?", label) for name in rows for sign, label in zip(rows[name], told[name]))
+
+
+def labels_told(shape, rows):
+    """The dict of the letters that the rows tell for the paths of the shape, or None if they disagree."""
+    told = {}
+    for name in rows:
+        for path, sign in zip(paths_in_order(shape, name), rows[name]):
+            if sign != "?" and told.setdefault(path, sign) != sign:
+                return None
+    return told
+
+
+def plain_count(rows):
+    """The number of trees that fit, shape by shape."""
+    size = size_of_rows(rows)
+    told = [labels_told(shape, rows) for shape in shapes(size)]
+    return sum(26 ** (size - len(labels)) for labels in told if labels is not None)
+
+
+def tree_key(tree):
+    """What orders trees of the same size as section 3 of the document says."""
+    if tree is None:
+        return ()
+    left, label, right = tree
+    return (label, len(labels_by_path(left)), tree_key(left), tree_key(right))
+
+
+def plain_trees(rows):
+    """The trees that fit in their order, shape by shape and letter by letter."""
+    found = []
+    for shape in shapes(size_of_rows(rows)):
+        told = labels_told(shape, rows)
+        if told is not None:
+            paths = list(labels_by_path(shape))
+            for letters in itertools.product(*[told.get(path, LETTERS) for path in paths]):
+                found.append(tree_from(dict(zip(paths, letters))))
+    return sorted(found, key=tree_key)
+
+
+def small_rows():
+    """Rows of one to five places, of every form."""
+    found = [{}]
+    for size in (1, 2):
+        texts = [None] + ["".join(signs) for signs in itertools.product("ab?", repeat=size)]
+        for told in itertools.product(texts, repeat=3):
+            found.append({name: row for name, row in zip(ROW_KINDS, told) if row is not None})
+    source = random.Random(19)
+    for size in range(1, 6):
+        found += [drawn_rows(source, size) for _ in range(60)]
+    return [rows for rows in found if rows]
+
+
+def large_rows():
+    """Rows of six to twelve places."""
+    source = random.Random(23)
+    return [drawn_rows(source, size) for size in range(6, 13) for _ in range(25)]
+
+
 class WalkCase(unittest.TestCase):
     """A test case with the checks that hold for every function."""
 
-    def asked(self, function, *args):
+    def asked(self, function, *args, **more):
         """The result of the call, which must not depend on when it is made or change its arguments."""
-        before = copy.deepcopy(args)
-        result = function(*args)
-        self.assertEqual(repr(result), repr(function(*before)))
-        self.assertEqual(repr(args), repr(before))
+        before, more_before = copy.deepcopy(args), copy.deepcopy(more)
+        result = function(*args, **more)
+        self.assertEqual(repr(result), repr(function(*before, **more_before)))
+        self.assertEqual(repr((args, more)), repr((before, more_before)))
         return result
 
-    def check_raises(self, error, field, value, function, *args):
-        """The call raises just this error with this very value, and changes nothing."""
-        before = repr(args)
+    def check_raises(self, error, field, value, function, *args, **more):
+        """The call raises just this error with this very value, and changes nothing.
+
+        The field is None for an error without fields.
+        """
+        before = repr((args, more))
         for _ in range(2):
             with self.assertRaises((ValueError, LookupError)) as caught:
-                function(*args)
+                function(*args, **more)
             self.assertEqual(type(caught.exception), error)
-            self.assertIs(getattr(caught.exception, field), value)
+            if field is not None:
+                self.assertIs(getattr(caught.exception, field), value)
             self.assertIsNone(caught.exception.__cause__)
             self.assertIsNone(caught.exception.__context__)
-        self.assertEqual(repr(args), before)
+        self.assertEqual(repr((args, more)), before)

@@ -3,69 +3,11 @@
 import random
 import unittest
 
-from samples import LETTERS, T, WalkCase, any_values, chain, drawn, full, nested, small_trees, trees
+from samples import (
+    CHANGES, GENTLE, LETTERS, T, WalkCase, any_values, chain, changed, changed_often, drawn, full, nested,
+    plainly_a_tree, small_trees, spots, trees,
+)
 from treewalks.trees import is_tree
-
-ODD_PARTS = [
-    None, True, False, 0, 1, "", "a", "z", "A", "Z", "ab", "`", "{", " ", "\n", "1", "?", "-", (), [], {},
-    (None, "a", None), (None, None, None), (None, "a"), [None, "a", None], ("a", "a", "a"), (None, "a", None, None),
-    (None, ("a",), None), (False, "a", None), (None, "a", ()), {"a": None},
-]
-
-
-def nodes_in(value):
-    """The number of nodes, or an infinite one if something in the value is not a node."""
-    if value is None:
-        return 0
-    if type(value) is not tuple or len(value) != 3:
-        return float("inf")
-    left, label, right = value
-    if type(label) is not str or label not in list(LETTERS):
-        return float("inf")
-    return nodes_in(left) + 1 + nodes_in(right)
-
-
-def plainly_a_tree(value):
-    return value is not None and nodes_in(value) <= 12
-
-
-def spots(value, way=()):
-    """The ways to all parts of nested tuples, the whole included."""
-    found = [way]
-    if isinstance(value, tuple):
-        for at, item in enumerate(value):
-            found += spots(item, way + (at,))
-    return found
-
-
-def changed(value, way, change):
-    """The value in which the change makes another list of the items around the part at the way."""
-    if len(way) == 1:
-        return tuple(change(list(value), way[0]))
-    items = list(value)
-    items[way[0]] = changed(items[way[0]], way[1:], change)
-    return tuple(items)
-
-
-def with_part(part):
-    return lambda items, at: items[:at] + [part] + items[at + 1:]
-
-
-def without(items, at):
-    return items[:at] + items[at + 1:]
-
-
-def doubled(items, at):
-    return items[:at + 1] + items[at:]
-
-
-def as_list(items, at):
-    return items[:at] + [list(items[at]) if isinstance(items[at], tuple) else [items[at]]] + items[at + 1:]
-
-
-CHANGES = [with_part(part) for part in ODD_PARTS] + [without, doubled, as_list]
-# Changes that often leave a tree.
-GENTLE = [with_part(part) for part in (None, "q", (None, "a", None))]
 
 
 class IsTree(WalkCase):
@@ -130,11 +72,7 @@ class IsTree(WalkCase):
         source = random.Random(5)
         found = {True: 0, False: 0}
         for tree in trees() * 20:
-            value = tree
-            for _ in range(2):
-                ways = spots(value)[1:]
-                if ways:
-                    value = changed(value, source.choice(ways), source.choice(CHANGES + 8 * GENTLE))
+            value = changed_often(source, tree, CHANGES + 8 * GENTLE, 2)
             found[plainly_a_tree(value)] += 1
             self.check(value)
         self.assertGreater(min(found.values()), 100)

@@ -34,6 +34,13 @@ def functions(tree):
     return [node for node in ast.walk(tree) if isinstance(node, ast.FunctionDef)]
 
 
+def generators():
+    """The names of all functions of the package with a yield."""
+    found = [node for path in files() for node in functions(parsed(path))]
+    lazy = (ast.Yield, ast.YieldFrom)
+    return [node.name for node in found if any(isinstance(part, lazy) for part in ast.walk(node))]
+
+
 def bound_names(tree):
     """All names that the file gives to something, without methods and attributes."""
     found = set()
@@ -76,6 +83,26 @@ class Language(unittest.TestCase):
                 self.assertNotIsInstance(node, BARRED_NODES, path)
                 if isinstance(node, ast.Constant):
                     self.assertNotIsInstance(node.value, (float, complex), path)
+
+    def test_signs(self):
+        for path in files():
+            for node in ast.walk(parsed(path)):
+                if isinstance(node, ast.BinOp) and isinstance(node.op, ast.Pow):
+                    self.assertIsInstance(node.right, ast.Constant, path)
+                if isinstance(node, ast.Compare):
+                    for sign, right in zip(node.ops, node.comparators):
+                        if isinstance(sign, (ast.Is, ast.IsNot)):
+                            self.assertIsInstance(right, ast.Constant, path)
+
+    def test_what_is_iterated_at_once_is_not_stored(self):
+        lazy = {"range", "zip", "enumerate", "reversed", "iter", *generators()}
+        for path in files():
+            for node in ast.walk(parsed(path)):
+                if isinstance(node, (ast.Assign, ast.Return)) and isinstance(node.value, ast.Call):
+                    called = node.value.func
+                    self.assertFalse(isinstance(called, ast.Name) and called.id in lazy, (path, node.lineno))
+                if isinstance(node, (ast.GeneratorExp, ast.SetComp)):
+                    self.fail((path, node.lineno))
 
     def test_imports_stand_on_top_and_name_the_package(self):
         for path in files():

@@ -51,6 +51,14 @@ def part_at(tree, path):
     return part
 
 
+def is_open(tree, path):
+    """Tell whether any value is an open path of the tree."""
+    try:
+        return part_at(tree, path) is None
+    except NoPath:
+        return False
+
+
 def replaced(tree, path, part):
     """Return the tree with the part in the place of what is at the path."""
     old = part_at(tree, path)
