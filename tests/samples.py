@@ -5,6 +5,8 @@ import itertools
 import random
 import unittest
 
+from treewalks.desks import Desk, LoggedDesk, LoggedSearchDesk, SearchDesk
+
 LETTERS = "abcdefghijklmnopqrstuvwxyz"
 KINDS = ("first", "between", "last", "level")
 T = ((None, "b", None), "a", ((None, "d", None), "c", None))
@@ -359,3 +361,248 @@ class WalkCase(unittest.TestCase):
             self.assertIsNone(caught.exception.__cause__)
             self.assertIsNone(caught.exception.__context__)
         self.assertEqual(repr((args, more)), before)
+
+
+def outcome(function, *args, **more):
+    """("ok", result), or ("raises", name, ...) with the fields of the error and what it was chained to."""
+    try:
+        return ("ok", function(*args, **more))
+    except (ValueError, LookupError) as error:
+        chained = [part for part in (error.__cause__, error.__context__) if part is not None]
+        return ("raises", type(error).__name__, *vars(error).values(), *chained)
+
+
+def ascending(shape, letters):
+    """The shape with these letters, given out in the order of the walk "between"."""
+    return tree_from(dict(zip(paths_in_order(shape, "between"), letters)))
+
+
+def plainly_ascending(text):
+    return list(text) == sorted(set(text))
+
+
+def search_trees():
+    """Search trees of one to twelve nodes."""
+    found = [ascending(shape, "fhkptx") for size in range(1, 5) for shape in shapes(size)]
+    source = random.Random(29)
+    for size in range(5, 13):
+        for _ in range(4):
+            found.append(ascending(drawn(source, size), sorted(source.sample(LETTERS, size))))
+    return found
+
+
+EDIT_LENGTHS = {"put": 3, "cut": 2, "label": 3, "turn": 2}
+
+
+def plainly_an_edit(value):
+    if type(value) is not tuple or len(value) == 0 or type(value[0]) is not str:
+        return False
+    return EDIT_LENGTHS.get(value[0]) == len(value)
+
+
+def plainly_a_letter(value):
+    return type(value) is str and value in list(LETTERS)
+
+
+def swapped(text):
+    """The path with left and right exchanged."""
+    return text.translate(str.maketrans("lr", "rl"))
+
+
+def plain_edit(labels, word, path, label=None):
+    """The labels by path after the edit, or the tuple of the name of the error and its field."""
+    is_text = type(path) is str
+    if word == "put":
+        if not is_text or path in labels or path[-1:] not in ("l", "r") or path[:-1] not in labels:
+            return ("NotOpen", path)
+    elif not is_text or path not in labels:
+        return ("NoPath", path)
+    if word in ("put", "label") and not plainly_a_letter(label):
+        return ("NoLabel", label)
+    if word == "put" and len(labels) == 12:
+        return ("TooLarge", 12)
+    if word == "cut":
+        below = {at: labels[at] for at in labels if not at.startswith(path)}
+        return below or ("LastNode",)
+    if word == "turn":
+        many = len(path)
+        return {at[:many] + (swapped(at[many:]) if at.startswith(path) else at[many:]): labels[at] for at in labels}
+    return {**labels, path: label}
+
+
+class PlainDesk:
+    """A second way to keep a desk: labels by path, and all edits that stand done again for each question."""
+
+    def __init__(self, tree, searching):
+        self.start = labels_by_path(tree)
+        self.searching = searching
+        self.done = []
+        self.log = []
+
+    def labels(self, version):
+        labels = self.start
+        for edit in self.done[:version]:
+            labels = plain_edit(labels, *edit)
+        return labels
+
+    def tree(self, version=None):
+        return tree_from(self.labels(len(self.done) if version is None else version))
+
+    def refusal(self, edit):
+        """The error of the edit as a tuple, or None."""
+        if len(self.done) == 60:
+            return ("TooManyEdits",)
+        told = plain_edit(self.labels(len(self.done)), *edit)
+        if isinstance(told, tuple):
+            return told
+        between = plain_walk(tree_from(told), "between")
+        if self.searching and not plainly_ascending(between):
+            return ("NotSearch", between)
+        return None
+
+    def refusal_of_run(self, edits):
+        """The error of the run as a tuple, or None; then its edits stand."""
+        if type(edits) not in (list, tuple) or len(edits) > 20:
+            return ("BadEdits",)
+        for index, edit in enumerate(edits):
+            if not plainly_an_edit(edit):
+                return ("BadEdit", index)
+        before = list(self.done)
+        for index, edit in enumerate(edits):
+            if self.refusal(edit) is not None:
+                self.done = before
+                return ("Rejected", index)
+            self.done.append(edit)
+        return None
+
+    def call(self, name, *args):
+        """What the call of this method returns or raises, in the form of outcome."""
+        if name == "undo":
+            error = None if self.done else ("NothingToUndo",)
+            self.done = self.done[:-1]
+        elif name == "run":
+            error = self.refusal_of_run(*args)
+        else:
+            error = self.refusal((name, *args))
+            if error is None:
+                self.done.append((name, *args))
+        if error is not None:
+            return ("raises", *error)
+        self.log.append((name, len(self.done)))
+        return ("ok", len(self.done))
+
+    def shown(self, logged):
+        """What shown tells of a desk."""
+        trees = [self.tree(version) for version in range(len(self.done) + 1)]
+        size = len(labels_by_path(trees[-1]))
+        return {
+            "tree": trees[-1], "edits": tuple(self.done), "len": len(self.done), "version": len(self.done),
+            "str": f"{size} nodes, {len(self.done)} edits", "size": size, "trees": trees,
+            "walks": [plain_walk(trees[-1], kind) for kind in ROW_KINDS], "history": list(enumerate(trees)),
+            "log": tuple(self.log) if logged else None,
+        }
+
+
+def shown(desk):
+    """All that a desk tells about itself."""
+    return {
+        "tree": desk.tree(), "edits": desk.edits(), "len": len(desk), "version": desk.version,
+        "str": str(desk), "size": desk.size, "trees": [desk.tree(version=at) for at in range(len(desk) + 1)],
+        "walks": [desk.first, desk.between, desk.last], "history": list(desk.history()),
+        "log": desk.log if hasattr(desk, "log") else None,
+    }
+
+
+def drawn_path(source, tree, odd):
+    """A path of a node, an open one, one below, or one of the odd values."""
+    sort = source.randrange(12)
+    if sort < 6:
+        return source.choice(list(labels_by_path(tree)))
+    if sort < 10:
+        return source.choice(open_paths(tree))
+    if sort == 10 or not odd:
+        return source.choice(open_paths(tree)) + source.choice("lr")
+    return source.choice(odd)
+
+
+def drawn_edit(source, tree, odd):
+    """An edit, often one that can be done, perhaps with odd values as its arguments."""
+    word = source.choice(list(EDIT_LENGTHS))
+    path = drawn_path(source, tree, odd)
+    label = source.choice(odd) if odd and source.randrange(9) == 0 else source.choice(LETTERS)
+    return (word, path, label)[:EDIT_LENGTHS[word]]
+
+
+def good_edits(source, model, many, words=tuple(EDIT_LENGTHS)):
+    """So many edits that the model takes one after another; it is then as before."""
+    before, found = list(model.done), []
+    while len(found) < many:
+        edit = drawn_edit(source, model.tree(), [])
+        if edit[0] in words and model.refusal(edit) is None:
+            model.done.append(edit)
+            found.append(edit)
+    model.done = before
+    return found
+
+
+CLASSES = (Desk, SearchDesk, LoggedDesk, LoggedSearchDesk)
+SEARCHING = (SearchDesk, LoggedSearchDesk)
+LOGGED = (LoggedDesk, LoggedSearchDesk)
+
+
+def model_of(made, tree):
+    """The second way to keep a desk of this class."""
+    return PlainDesk(tree, made in SEARCHING)
+
+
+def trees_for(made):
+    """Trees of one to twelve nodes that a desk of this class can hold."""
+    return search_trees() if made in SEARCHING else trees()[::3]
+
+
+class DeskCase(WalkCase):
+    def check_shown(self, desk, model):
+        """The desk tells the same as the model, and the same when it is asked again."""
+        told = repr(shown(desk))
+        self.assertEqual(told, repr(model.shown(type(desk) in LOGGED)))
+        self.assertEqual(told, repr(shown(desk)))
+
+    def check_call(self, desk, model, name, *args):
+        """The call of this method ends as the model says, and changes no argument."""
+        before = repr(args)
+        expected = model.call(name, *copy.deepcopy(args))
+        told = outcome(getattr(desk, name), *args)
+        self.assertEqual(repr(told), repr(expected), (name, args))
+        if told[0] == "raises" and told[1] in ("NotOpen", "NoPath"):
+            self.assertIs(told[2], args[0])
+        if told[0] == "raises" and told[1] == "NoLabel":
+            self.assertIs(told[2], args[1])
+        self.assertEqual(repr(args), before)
+        return told
+
+    def check_refused(self, desk, error, field, value, name, *args):
+        """The call raises just this error and leaves everything as it was."""
+        before = repr(shown(desk))
+        self.check_raises(error, field, value, getattr(desk, name), *args)
+        self.assertEqual(repr(shown(desk)), before)
+
+
+def answered(session):
+    """The repr of the last expression of the session, or the error that it raises."""
+    *before, last = [line[4:] for line in session.splitlines() if line.startswith(">>> ")]
+    names = {}
+    for line in before:
+        exec(line, names)
+    try:
+        return repr(eval(last, names))
+    except (ValueError, LookupError) as error:
+        return f"raises {type(error).__name__}({', '.join(repr(value) for value in vars(error).values())})"
+
+
+class ExampleCase(unittest.TestCase):
+    def check_sessions(self, text, many):
+        sessions = text.strip().split("\n\n")
+        self.assertEqual(len(sessions), many)
+        for session in sessions:
+            with self.subTest(session):
+                self.assertEqual(answered(session), session.splitlines()[-1])

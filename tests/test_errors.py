@@ -2,7 +2,10 @@
 
 import unittest
 
+from samples import any_values
 from treewalks import bounds, errors
+from treewalks.desks import Desk
+from treewalks.renamings import Renaming
 
 WALK_ERRORS = {
     "TooLarge": "limit", "TooMany": "limit", "NoRows": None, "BadRow": "name", "NotAlike": "name", "NoFit": None,
@@ -53,10 +56,19 @@ class Errors(unittest.TestCase):
 
     def test_fields_are_the_very_objects(self):
         for name, field in FIELDS.items():
-            for value in (["x"], {"a": 1}, ("l", [2]), "l" * 3, 10 ** 40, None, True):
+            for value in any_values() + [["x"], ("l", [2]), Desk((None, "a", None)), Renaming(), errors.Busy()]:
                 if field is not None:
-                    with self.subTest(name, value=value):
-                        self.assertIs(getattr(getattr(errors, name)(value), field), value)
+                    before = repr(value)
+                    made = getattr(errors, name)(value)
+                    self.assertIs(getattr(made, field), value)
+                    self.assertEqual((repr(value), list(vars(made))), (before, [field]))
+
+    def test_each_is_of_its_class_alone(self):
+        for name, field in FIELDS.items():
+            made = getattr(errors, name)() if field is None else getattr(errors, name)(5)
+            told = [other for other in FIELDS if isinstance(made, getattr(errors, other))]
+            self.assertEqual((told, type(made).__name__), ([name], name))
+            self.assertEqual(isinstance(made, errors.WalkError), name in WALK_ERRORS)
 
     def test_objects_keep_their_own_fields(self):
         for name, field in FIELDS.items():

@@ -2,6 +2,8 @@
 
 import unittest
 
+from samples import ExampleCase
+
 FITS = """
 >>> from treewalks.fits import fits
 >>> T = ((None, 'b', None), 'a', ((None, 'd', None), 'c', None))
@@ -165,37 +167,18 @@ NESTS = """
 """
 
 
-def answered(session):
-    """The repr of the last expression of the session, or the error that it raises."""
-    *before, last = [line[4:] for line in session.splitlines() if line.startswith(">>> ")]
-    names = {}
-    for line in before:
-        exec(line, names)
-    try:
-        return repr(eval(last, names))
-    except (ValueError, LookupError) as error:
-        return f"raises {type(error).__name__}({', '.join(repr(value) for value in vars(error).values())})"
-
-
-class Examples(unittest.TestCase):
-    def check(self, text, many):
-        sessions = text.strip().split("\n\n")
-        self.assertEqual(len(sessions), many)
-        for session in sessions:
-            with self.subTest(session):
-                self.assertEqual(answered(session), session.splitlines()[-1])
-
+class Examples(ExampleCase):
     def test_trees_that_fit(self):
-        self.check(FITS, 10)
+        self.check_sessions(FITS, 10)
 
     def test_pairs(self):
-        self.check(PAIRS, 8)
+        self.check_sessions(PAIRS, 8)
 
     def test_search_trees(self):
-        self.check(SEARCH, 9)
+        self.check_sessions(SEARCH, 9)
 
     def test_nests(self):
-        self.check(NESTS, 7)
+        self.check_sessions(NESTS, 7)
 
 
 if __name__ == "__main__":

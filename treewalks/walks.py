@@ -1,7 +1,6 @@
 """Walks: the labels of a tree in the order of one of four kinds."""
 
 from treewalks.errors import NoKind, NoPath, NoPlace
-from treewalks.trees import each_node
 from treewalks.values import is_whole_number
 
 KINDS = ("first", "between", "last", "level")
@@ -38,9 +37,9 @@ def deep_steps(tree, kind, path):
 
 def level_steps(tree):
     """Return the steps level by level."""
-    # each_node has the nodes of a level from left to right already, and sorting
-    # by the length of the path keeps them so.
-    return sorted(list(each_node(tree)), key=lambda step: len(step[0]))
+    # The walk "first" has the nodes of a level from left to right already, and
+    # sorting by the length of the path keeps them so.
+    return sorted(deep_steps(tree, "first", ""), key=lambda step: len(step[0]))
 
 
 def walk(tree, kind):
